@@ -79,6 +79,9 @@ func SplitWords(s string) []string { return strings.FieldsFunc(s, isBlank) }
 // isBlank leaves out tabs, newlines and other white space: these belong to words.
 func isBlank(r rune) bool { return r == ' ' }
 
+// isWithin reports whether n is low to high.
+func isWithin(n, low, high int64) bool { return low <= n && n <= high }
+
 // joinNumbers returns the decimal forms of numbers with a separator between them.
 func joinNumbers(separator string, numbers ...int64) string {
 	var text strings.Builder

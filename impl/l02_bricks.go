@@ -152,7 +152,7 @@ func checkFormat(f Format, n, low, high int64) int64 {
 	if !ValidFormat(f) {
 		return ErrInvalid
 	}
-	if n < low || n > high {
+	if !isWithin(n, low, high) {
 		return ErrRange
 	}
 	return OK

@@ -3,6 +3,7 @@ package tests
 import (
 	"fmt"
 	"math"
+	"slices"
 	"testing"
 )
 
@@ -17,5 +18,26 @@ func expect(t *testing.T, call string, got []any, want ...any) {
 	t.Helper()
 	if g, w := fmt.Sprintf("%#v", got), fmt.Sprintf("%#v", want); g != w {
 		t.Errorf("%s: got %s, want %s", call, g, w)
+	}
+}
+
+// guarded returns a copy of a list with unused capacity behind it, and a function that checks that both are as they were.
+func guarded[T comparable](list []T, behind T) ([]T, func(t *testing.T, call string)) {
+	const unused = 4
+	whole := slices.Concat(list, slices.Repeat([]T{behind}, unused))
+	before := slices.Clone(whole)
+	return whole[:len(list)], func(t *testing.T, call string) {
+		t.Helper()
+		if !slices.Equal(whole, before) {
+			t.Errorf("%s: the argument %v, or what is behind it, has become %v", call, before, whole)
+		}
+	}
+}
+
+// spoil overwrites a result with its unused capacity. What is kept, or shared with an argument, changes with it.
+func spoil[T any](result []T, x T) {
+	whole := result[:cap(result)]
+	for k := range whole {
+		whole[k] = x
 	}
 }
