@@ -49,6 +49,9 @@ func (f Format) withJoint() Format {
 	return Format{Length: f.Length + f.Joint, Width: f.Width + f.Joint, Height: f.Height + f.Joint}
 }
 
+// sizes returns the length, the width and the height.
+func (f Format) sizes() []int64 { return []int64{f.Length, f.Width, f.Height} }
+
 // volume returns the volume without joints.
 func (f Format) volume() int64 { return f.Length * f.Width * f.Height }
 
@@ -126,7 +129,7 @@ func FormatText(f Format) string {
 	if !ValidFormat(f) {
 		return ""
 	}
-	return joinNumbers("x", f.Length, f.Width, f.Height) + "+" + Decimal(f.Joint)
+	return joinNumbers("x", f.sizes()...) + "+" + Decimal(f.Joint)
 }
 
 // ReadFormat returns the valid format with a text form.
