@@ -11,6 +11,9 @@ const (
 	PieceCloser    = 'C'
 )
 
+// allPieces are the letters of all pieces, in the order in which they are counted.
+const allPieces = "SHTBC"
+
 // MaxQuarters is the greatest length of a course in quarters of a brick.
 const MaxQuarters = 200
 

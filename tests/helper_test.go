@@ -41,3 +41,21 @@ func spoil[T any](result []T, x T) {
 		whole[k] = x
 	}
 }
+
+// changedTexts returns a text with each byte added at each place and put instead of each byte, and with each part left out.
+func changedTexts(text string) []string {
+	var list []string
+	for k := range len(text) + 1 {
+		for b := range 256 {
+			letter := string([]byte{byte(b)})
+			list = append(list, text[:k]+letter+text[k:])
+			if k < len(text) {
+				list = append(list, text[:k]+letter+text[k+1:])
+			}
+		}
+		for m := k; m <= len(text); m++ {
+			list = append(list, text[:k]+text[m:])
+		}
+	}
+	return list
+}

@@ -593,16 +593,8 @@ func TestCheckBondOfAllWords(t *testing.T) {
 // TestCheckBondOfChangedTexts changes, adds and leaves out each byte of a text.
 func TestCheckBondOfChangedTexts(t *testing.T) {
 	for _, text := range []string{"english S HC+H", "a SHTBCB+HHHHHHHH", "abcdefgh-012 S S S S S S S C+S"} {
-		for k := range len(text) + 1 {
-			for b := range 256 {
-				letter := string([]byte{byte(b)})
-				checkText(t, text[:k]+letter+text[k:])
-				if k < len(text) {
-					checkText(t, text[:k]+letter+text[k+1:])
-				}
-			}
-			checkText(t, text[:k])
-			checkText(t, text[k:])
+		for _, s := range changedTexts(text) {
+			checkText(t, s)
 		}
 	}
 }

@@ -836,17 +836,8 @@ func TestReadMouldOfChangedTexts(t *testing.T) {
 		expect(t, fmt.Sprintf("ReadMould(%q)", s), values(impl.ReadMould(s)), m, ok)
 	}
 	for _, text := range []string{"240x120x70 used 15", "30x30x30 used 0", "800x800x800 used 100000"} {
-		for k := range len(text) + 1 {
-			for b := range 256 {
-				letter := string([]byte{byte(b)})
-				check(text[:k] + letter + text[k:])
-				if k < len(text) {
-					check(text[:k] + letter + text[k+1:])
-				}
-			}
-			for m := k; m <= len(text); m++ {
-				check(text[:k] + text[m:])
-			}
+		for _, s := range changedTexts(text) {
+			check(s)
 		}
 	}
 }
