@@ -106,3 +106,13 @@ func readNumbers(s, separator string) ([]int64, bool) {
 	}
 	return numbers, true
 }
+
+// readLettered returns the number and the letter behind it of which a word consists, and whether it does; the letter is one of some letters.
+func readLettered(word, letters string) (int64, string, bool) {
+	number := strings.TrimRight(word, letters)
+	n, ok := ReadDecimal(number)
+	if !ok || len(word) != len(number)+1 {
+		return 0, "", false
+	}
+	return n, word[len(number):], true
+}
