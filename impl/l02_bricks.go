@@ -1,6 +1,9 @@
 package impl
 
-import "strings"
+import (
+	"cmp"
+	"strings"
+)
 
 // Pieces of a course.
 const (
@@ -24,6 +27,14 @@ const maxMeasure = 100000
 type Fraction struct {
 	Num int64
 	Den int64
+}
+
+// compare orders fractions by the numbers that they are; their Dens are positive.
+func (x Fraction) compare(y Fraction) int { return cmp.Compare(x.Num*y.Den, y.Num*x.Den) }
+
+// awayFrom returns how far x is from an integer.
+func (x Fraction) awayFrom(n int64) Fraction {
+	return Fraction{Num: distance(x.Num, n*x.Den), Den: x.Den}
 }
 
 // Format is the size of a brick in millimetres, and the thickness of the joints.
