@@ -37,6 +37,12 @@ func (x Fraction) awayFrom(n int64) Fraction {
 	return Fraction{Num: distance(x.Num, n*x.Den), Den: x.Den}
 }
 
+// minus returns x - n, which need not be in lowest terms.
+func (x Fraction) minus(n int64) Fraction { return Fraction{Num: x.Num - n*x.Den, Den: x.Den} }
+
+// over returns x / n in lowest terms; n is positive.
+func (x Fraction) over(n int64) Fraction { return lowestTerms(x.Num, n*x.Den) }
+
 // Format is the size of a brick in millimetres, and the thickness of the joints.
 type Format struct {
 	Length int64
@@ -175,9 +181,12 @@ func checkFormat(f Format, n, low, high int64) int64 {
 	return OK
 }
 
-// lowestTerms returns num / den in lowest terms; num is not negative, and den is positive.
+// wholeNumber returns the fraction that is n.
+func wholeNumber(n int64) Fraction { return Fraction{Num: n, Den: 1} }
+
+// lowestTerms returns num / den in lowest terms; den is positive.
 func lowestTerms(num, den int64) Fraction {
-	d := commonDivisor(num, den)
+	d := commonDivisor(distance(num, 0), den)
 	return Fraction{Num: num / d, Den: den / d}
 }
 
