@@ -82,6 +82,16 @@ func isBlank(r rune) bool { return r == ' ' }
 // isWithin reports whether n is low to high.
 func isWithin(n, low, high int64) bool { return low <= n && n <= high }
 
+// areWithin reports whether all numbers are low to high.
+func areWithin(numbers []int64, low, high int64) bool {
+	for _, n := range numbers {
+		if !isWithin(n, low, high) {
+			return false
+		}
+	}
+	return true
+}
+
 // joinNumbers returns the decimal forms of numbers with a separator between them.
 func joinNumbers(separator string, numbers ...int64) string {
 	var text strings.Builder

@@ -43,6 +43,14 @@ func (x Fraction) minus(n int64) Fraction { return Fraction{Num: x.Num - n*x.Den
 // over returns x / n in lowest terms; n is positive.
 func (x Fraction) over(n int64) Fraction { return lowestTerms(x.Num, n*x.Den) }
 
+// times returns x * n, which need not be in lowest terms.
+func (x Fraction) times(n int64) Fraction { return Fraction{Num: x.Num * n, Den: x.Den} }
+
+// plus returns x + y in lowest terms.
+func (x Fraction) plus(y Fraction) Fraction {
+	return lowestTerms(x.Num*y.Den+y.Num*x.Den, x.Den*y.Den)
+}
+
 // Format is the size of a brick in millimetres, and the thickness of the joints.
 type Format struct {
 	Length int64
@@ -188,6 +196,19 @@ func wholeNumber(n int64) Fraction { return Fraction{Num: n, Den: 1} }
 func lowestTerms(num, den int64) Fraction {
 	d := commonDivisor(distance(num, 0), den)
 	return Fraction{Num: num / d, Den: den / d}
+}
+
+// overCommon returns the numerators of fractions in lowest terms over their least common denominator, and this denominator.
+func overCommon(list []Fraction) ([]int64, int64) {
+	den := int64(1)
+	for _, x := range list {
+		den *= x.Den / commonDivisor(den, x.Den)
+	}
+	var numerators []int64
+	for _, x := range list {
+		numerators = append(numerators, x.Num*(den/x.Den))
+	}
+	return numerators, den
 }
 
 // commonDivisor returns the greatest common divisor of two numbers that are not negative.
